@@ -1,0 +1,1 @@
+"""Caches of actions by whole keys: a near store, a far store, and the same outcomes."""
