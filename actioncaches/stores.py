@@ -12,9 +12,15 @@ SEND_CALL = 2
 FAILING_CALL = 3
 DO_CALL = 4
 CUT_CALL = 5
+FORGET_CALL = 6
+CLEAN_CALL = 7
+SHARE_CALL = 8
+HAS_CALL = 9
+LIST_CALL = 10
 
 # For each call's number: how many whole numbers follow it, and how many rows behind these.
-SHAPES = {0: (2, 0), 1: (1, 0), 2: (1, 0), 3: (1, 0), 4: (1, 1), 5: (3, 1), 11: (0, 0)}
+SHAPES = {0: (2, 0), 1: (1, 0), 2: (1, 0), 3: (1, 0), 4: (1, 1), 5: (3, 1),
+          6: (2, 1), 7: (1, 0), 8: (0, 0), 9: (2, 1), 10: (1, 0), 11: (0, 0)}
 
 LAST_TOOL = 5
 MOST_BYTES = 64
@@ -25,6 +31,10 @@ MOST_ROOM = 1024
 WORKED = 0
 FROM_NEAR = 1
 FROM_FAR = 2
+
+HAS_NONE = 0
+HAS_WHOLE = 1
+HAS_CUT = 2
 
 # What a look answers when nothing is refused: no refusal has this number.
 FINE = 0
@@ -98,6 +108,19 @@ def look_at_stored_action(number, tool, given):
     return look_at_action(tool, given)
 
 
+def look_at_call(call, numbers, row):
+    """The refusal of what is looked at ahead of all else that the call does, or FINE."""
+    if call == ROOM_CALL or call == CLEAN_CALL or call == LIST_CALL:
+        return look_at_store(numbers[0])
+    if call == THERE_CALL or call == SEND_CALL or call == FAILING_CALL:
+        return look_at_truth(numbers[0])
+    if call == DO_CALL:
+        return look_at_action(numbers[0], row)
+    if call == CUT_CALL or call == FORGET_CALL or call == HAS_CALL:
+        return look_at_stored_action(numbers[0], numbers[1], row)
+    return FINE
+
+
 class Entry:
     """A kept outcome; it is cut if it holds fewer bytes than its length tells."""
 
@@ -121,6 +144,9 @@ class Entry:
     def cut_to(self, n):
         self.held = self.held[:n]
 
+    def listed(self):
+        return [self.tool, self.status, self.length, len(self.held), len(self.given)]
+
 
 class Store:
     """Entries in order, from the front; what there's no room for is dropped from the end."""
@@ -141,14 +167,22 @@ class Store:
     def take_out(self, place):
         return self.entries.pop(place)
 
+    def take_out_cut(self):
+        """Take out all entries that are cut; how many these are."""
+        whole = [entry for entry in self.entries if entry.is_whole()]
+        taken = len(self.entries) - len(whole)
+        self.entries = whole
+        return taken
+
     def move_to_front(self, place):
         self.entries.insert(0, self.take_out(place))
 
     def drop_over_room(self):
         """Drop the last entries until the load fits; how many these are."""
+        load = self.load()
         dropped = 0
-        while self.load() > self.room:
-            self.entries.pop()
+        while load > self.room:
+            load -= self.entries.pop().size()
             dropped += 1
         return dropped
 
@@ -161,7 +195,10 @@ class Store:
 
 
 class Session:
-    """One object of a line: two stores, three switches, and what is counted."""
+    """One object of a line: two stores, three switches, and what is counted.
+
+    A method is called only when nothing was refused by look_at_call.
+    """
 
     def __init__(self):
         self.near = Store()
@@ -180,9 +217,6 @@ class Session:
         return self.near if number == 0 else self.far
 
     def set_room(self, number, n):
-        refusal = look_at_store(number)
-        if refusal != FINE:
-            return [refusal]
         if n < 0 or n > MOST_ROOM:
             return [LIMIT]
         store = self.store_of(number)
@@ -192,30 +226,18 @@ class Session:
         return [dropped]
 
     def set_there(self, b):
-        refusal = look_at_truth(b)
-        if refusal != FINE:
-            return [refusal]
         self.far_is_there = b == 1
         return [0]
 
     def set_send(self, b):
-        refusal = look_at_truth(b)
-        if refusal != FINE:
-            return [refusal]
         self.sends = b == 1
         return [0]
 
     def set_failing(self, b):
-        refusal = look_at_truth(b)
-        if refusal != FINE:
-            return [refusal]
         self.keeps_failing = b == 1
         return [0]
 
     def do(self, tool, given):
-        refusal = look_at_action(tool, given)
-        if refusal != FINE:
-            return [refusal]
         place = self.whole_place(self.near, tool, given)
         if place != NOWHERE:
             return self.answer_from_near(place)
@@ -263,9 +285,6 @@ class Session:
         self.dropped += store.keep(Entry(tool, given, status, output))
 
     def cut(self, number, tool, n, given):
-        refusal = look_at_stored_action(number, tool, given)
-        if refusal != FINE:
-            return [refusal]
         store = self.store_of(number)
         place = store.place_of(tool, given)
         if place == NOWHERE:
@@ -276,6 +295,44 @@ class Session:
         entry.cut_to(n)
         return [0]
 
+    def forget(self, number, tool, given):
+        store = self.store_of(number)
+        place = store.place_of(tool, given)
+        if place == NOWHERE:
+            return [ABSENT]
+        store.take_out(place)
+        return [0]
+
+    def clean(self, number):
+        taken = self.store_of(number).take_out_cut()
+        self.spoilt += taken
+        return [taken]
+
+    def share(self):
+        if not self.far_is_there:
+            return [LIMIT]
+        sent = 0
+        for entry in reversed(self.near.entries):
+            # Asked anew for each: an entry kept before this one may have dropped the far store's own.
+            if entry.is_whole() and self.far.place_of(entry.tool, entry.given) == NOWHERE:
+                self.keep_in(self.far, entry.tool, entry.given, entry.status, entry.held)
+                sent += 1
+        self.sent += sent
+        return [sent]
+
+    def has(self, number, tool, given):
+        store = self.store_of(number)
+        place = store.place_of(tool, given)
+        if place == NOWHERE:
+            return [HAS_NONE]
+        return [HAS_WHOLE if store.entries[place].is_whole() else HAS_CUT, place]
+
+    def list_entries(self, number):
+        told = [0]
+        for entry in self.store_of(number).entries:
+            told.extend(entry.listed())
+        return told
+
     def counts(self):
         answered = [self.worked, self.from_near, self.from_far]
         happened = [self.sent, self.dropped, self.spoilt]
@@ -283,6 +340,9 @@ class Session:
 
 
 def answer_call(session, call, numbers, row):
+    refusal = look_at_call(call, numbers, row)
+    if refusal != FINE:
+        return [refusal]
     if call == ROOM_CALL:
         return session.set_room(numbers[0], numbers[1])
     if call == THERE_CALL:
@@ -295,6 +355,16 @@ def answer_call(session, call, numbers, row):
         return session.do(numbers[0], row)
     if call == CUT_CALL:
         return session.cut(numbers[0], numbers[1], numbers[2], row)
+    if call == FORGET_CALL:
+        return session.forget(numbers[0], numbers[1], row)
+    if call == CLEAN_CALL:
+        return session.clean(numbers[0])
+    if call == SHARE_CALL:
+        return session.share()
+    if call == HAS_CALL:
+        return session.has(numbers[0], numbers[1], row)
+    if call == LIST_CALL:
+        return session.list_entries(numbers[0])
     return session.counts()
 
 

@@ -31,6 +31,26 @@ def cut(store, tool, n, given):
     return [5, store, tool, n, len(given)] + list(given)
 
 
+def forget(store, tool, given):
+    return [6, store, tool, len(given)] + list(given)
+
+
+def clean(store):
+    return [7, store]
+
+
+def share():
+    return [8]
+
+
+def has(store, tool, given):
+    return [9, store, tool, len(given)] + list(given)
+
+
+def listing(store):
+    return [10, store]
+
+
 def counts():
     return [11]
 
@@ -64,3 +84,26 @@ def run(*calls):
 
 def last(*calls):
     return run(*calls)[-1]
+
+
+def order(store, actions):
+    """Calls that ask for the place of each action's entry."""
+    return [has(store, tool, given) for tool, given in actions]
+
+
+# What is wrong with a store, a tool and an input for the calls that look at all three, in the order of looking.
+WRONG_STORES = (-HUGE, -1, 2, 3, HUGE)
+WRONG_TOOLS = (-HUGE, -1, 6, 7, HUGE)
+WRONG_INPUTS = ([1] * 65, [1] * 100, [-1], [256], [1, -HUGE], [HUGE, 1], [0] * 63 + [256], [255] * 64 + [0])
+
+
+def wrong_looks(call):
+    """Each wrong calling of forget or has, with what it must answer."""
+    found = []
+    for store in WRONG_STORES:
+        found += [(call(store, tool, given), STORE) for tool in (0, 5, -1, 6) for given in ([1], [256], [1] * 65)]
+    for tool in WRONG_TOOLS:
+        found += [(call(store, tool, given), TOOL) for store in (NEAR, FAR) for given in ([1], [-1], [1] * 65)]
+    for given in WRONG_INPUTS:
+        found += [(call(store, tool, given), INPUT) for store in (NEAR, FAR) for tool in (0, 5)]
+    return found

@@ -3,6 +3,7 @@
 import random
 import unittest
 
+from another import worked
 from lines import (ABSENT, FAR, HUGE, INPUT, LIMIT, NEAR, TOOL, counts, cut, do, failing, last, missing, room, run,
                    send, there)
 
@@ -100,17 +101,6 @@ class Refused(unittest.TestCase):
                     missing(FAR, 0, [2]), do(0, [2]))
         self.assertEqual(found[2:7], [[TOOL], [TOOL], [INPUT], [INPUT], [INPUT]])
         self.assertEqual(found[7:], [[0, 2, 0, 0, 2, 0, 0, 6], [1], [LIMIT], [1], [LIMIT], [1, 0, 2]])
-
-
-def worked(tool, given):
-    """The outcome, written another way than the program's."""
-    backwards = [given[-1 - place] for place in range(len(given))]
-    ordered = [byte for byte in range(256) for found in given if found == byte]
-    total = sum(given)
-    twice = [given[place // 2] for place in range(2 * len(given))]
-    zeros = len([byte for byte in given if byte == 0])
-    outputs = [given, backwards, ordered, list(divmod(total, 256)), twice, [zeros] if zeros else []]
-    return [1 if tool == 5 and zeros else 0] + outputs[tool]
 
 
 def some_call(source):

@@ -3,11 +3,12 @@
 import unittest
 
 from actioncaches.stores import answers
-from lines import FAR, NEAR, apart, counts, cut, do, failing, line, missing, room, run, send, there
+from lines import (FAR, NEAR, apart, clean, counts, cut, do, failing, forget, has, line, listing, room, run, send,
+                   share, there)
 
 GIVEN = [1, 2, 3]
 EXAMPLE = [do(1, GIVEN), do(1, GIVEN), cut(NEAR, 1, 2, GIVEN), do(1, GIVEN), there(0), room(NEAR, 6), do(1, GIVEN),
-           counts(), do(5, [0, 7])]
+           counts(), do(5, [0, 7]), has(NEAR, 5, [0, 7])]
 
 
 class Counts(unittest.TestCase):
@@ -29,6 +30,26 @@ class Counts(unittest.TestCase):
         self.assertEqual(found[9:14], [[4], [0], [2, 0, 1], [2, 0, 2], [2, 0, 3]])
         self.assertEqual(found[17:], [[0, 0, 3], [0, 0, 9], [1], [0, 6, 5, 3, 4, 8, 2, 3]])
 
+    def test_forget_is_not_counted(self):
+        found = run(do(0, [1]), do(0, [2]), cut(NEAR, 0, 0, [2]), forget(NEAR, 0, [1]), counts(),
+                    forget(NEAR, 0, [2]), forget(FAR, 0, [2]), counts())
+        self.assertEqual((found[4], found[7]), ([0, 2, 0, 0, 2, 0, 0, 3], [0, 2, 0, 0, 2, 0, 0, 0]))
+
+    def test_clean_is_counted_as_spoilt(self):
+        found = run(do(0, [1]), do(0, [2]), cut(NEAR, 0, 0, [2]), cut(FAR, 0, 0, [1]), cut(FAR, 0, 0, [2]),
+                    clean(NEAR), counts(), clean(FAR), counts())
+        self.assertEqual((found[6], found[8]), ([0, 2, 0, 0, 2, 0, 1, 3], [0, 2, 0, 0, 2, 0, 3, 3]))
+
+    def test_share_is_counted_as_sent_and_what_goes_for_it_as_dropped(self):
+        found = run(room(FAR, 3), send(0), do(0, [1]), do(0, [2]), do(0, [3, 3]), share(), counts())
+        # The one of size 5 has no room in the far store and is sent all the same.
+        self.assertEqual(found[5:], [[3], [0, 3, 0, 0, 3, 1, 0, 11]])
+
+    def test_has_and_list_are_not_counted(self):
+        found = run(do(0, [1]), cut(NEAR, 0, 0, [1]), has(NEAR, 0, [1]), has(FAR, 0, [1]), listing(NEAR),
+                    listing(FAR), counts())
+        self.assertEqual(found[6], [0, 1, 0, 0, 1, 0, 0, 3])
+
     def test_the_load_is_the_near_store_s(self):
         found = run(do(0, GIVEN), room(FAR, 0), counts(), do(0, [1]), room(NEAR, 0), counts())
         self.assertEqual((found[2][7], found[5][7]), (7, 0))
@@ -41,8 +62,29 @@ class Counts(unittest.TestCase):
 class Example(unittest.TestCase):
     def test_the_document_s_own(self):
         self.assertEqual(run(*EXAMPLE), [[0, 0, 3, 2, 1], [1, 0, 3, 2, 1], [0], [2, 0, 3, 2, 1], [0], [1],
-                                         [0, 0, 3, 2, 1], [0, 2, 1, 1, 1, 1, 1, 0], [0, 1, 1]])
-        self.assertEqual(run(*EXAMPLE, missing(NEAR, 5, [0, 7]))[-1], [-5])
+                                         [0, 0, 3, 2, 1], [0, 2, 1, 1, 1, 1, 1, 0], [0, 1, 1], [0]])
+
+    def test_the_document_s_own_number_by_number(self):
+        self.assertEqual(answers([4, 1, 3, 1, 2, 3,
+                                  4, 1, 3, 1, 2, 3,
+                                  5, 0, 1, 2, 3, 1, 2, 3,
+                                  4, 1, 3, 1, 2, 3,
+                                  1, 0,
+                                  0, 0, 6,
+                                  4, 1, 3, 1, 2, 3,
+                                  11,
+                                  4, 5, 2, 0, 7,
+                                  9, 0, 5, 2, 0, 7]),
+                         [5, 0, 0, 3, 2, 1,
+                          5, 1, 0, 3, 2, 1,
+                          1, 0,
+                          5, 2, 0, 3, 2, 1,
+                          1, 0,
+                          1, 1,
+                          5, 0, 0, 3, 2, 1,
+                          8, 0, 2, 1, 1, 1, 1, 1, 0,
+                          3, 0, 1, 1,
+                          1, 0])
 
     def test_number_by_number(self):
         self.assertEqual(answers([4, 1, 3, 1, 2, 3, 5, 0, 1, 2, 3, 1, 2, 3, 4, 1, 3, 1, 2, 3, 1, 0, 0, 0, 6, 11]),
@@ -57,6 +99,11 @@ class Handed(unittest.TestCase):
         self.assertEqual(answers([3, 1]), [1, 0])
         self.assertEqual(answers([4, 0, 0]), [2, 0, 0])
         self.assertEqual(answers([5, 0, 0, 0, 0]), [1, -5])
+        self.assertEqual(answers([6, 0, 0, 0]), [1, -5])
+        self.assertEqual(answers([7, 1]), [1, 0])
+        self.assertEqual(answers([8]), [1, 0])
+        self.assertEqual(answers([9, 1, 5, 2, 0, 7]), [1, 0])
+        self.assertEqual(answers([10, 1]), [1, 0])
         self.assertEqual(answers([11]), [8, 0, 0, 0, 0, 0, 0, 0, 0])
 
     def test_a_refusal_is_its_number_alone(self):
@@ -64,10 +111,16 @@ class Handed(unittest.TestCase):
         self.assertEqual(answers([0, 0, -1]), [1, -1])
         self.assertEqual(answers([4, 6, 1, 5]), [1, -2])
         self.assertEqual(answers([4, 0, 1, 256]), [1, -3])
+        self.assertEqual(answers([6, 0, 1, 1, 3]), [1, -5])
+        self.assertEqual(answers([7, 2]), [1, -4])
+        self.assertEqual(answers([1, 0, 8]), [1, 0, 1, -1])
+        self.assertEqual(answers([9, 0, 6, 1, 3]), [1, -2])
+        self.assertEqual(answers([10, -1]), [1, -4])
 
     def test_calls_behind_refused_rows_are_read_from_the_right_place(self):
-        found = run(do(0, [11] * 100), do(9, [4] * 64), cut(0, 0, 0, [5] * 65), cut(7, 0, 0, [1] * 3), counts())
-        self.assertEqual(found, [[-3], [-2], [-3], [-4], [0] * 8])
+        found = run(do(0, [11] * 100), do(9, [4] * 64), cut(0, 0, 0, [5] * 65), cut(7, 0, 0, [1] * 3),
+                    forget(0, 0, [8] * 100), forget(9, 9, []), has(1, 1, [10] * 99), has(1, 8, [7] * 2), counts())
+        self.assertEqual(found, [[-3], [-2], [-3], [-4], [-3], [-4], [-3], [-2], [0] * 8])
 
     def test_what_is_handed_in_stays(self):
         for calls in (EXAMPLE, [do(2, [3, 1, 2]), cut(NEAR, 2, 1, [3, 1, 2]), do(0, [1] * 65), room(2, 2)]):

@@ -20,6 +20,13 @@ NOT_USED = set("""register mro elements open input version_info with_traceback a
 WORDS = re.compile(r"""\b(type|typing|typing_extensions|enum|Enum|IntEnum|StrEnum|Flag|IntFlag|Generic|Protocol|ABC
     |ABCMeta|namedtuple|NamedTuple|TypedDict|TYPE_CHECKING|abstractmethod)\b|dataclass|overload|contextmanager""", re.X)
 CHANGING = set("append clear extend insert pop remove reverse setdefault update".split())
+WALKED = {"zip", "enumerate", "reversed", "range", "items", "keys", "values"}
+WALKERS = {"list", "tuple", "dict", "sorted", "sum", "any", "all", "enumerate", "zip", "min", "max", "join"}
+NOT_VALUES = set("""items keys values pop update append clear extend insert remove reverse setdefault sort args encode
+    format""".split())
+FREE_VALUES = set("count index title find get join lower upper split strip copy add".split())
+FREE_METHODS = {"add", "discard"} | OWN_METHODS
+PYTHONS = {name for kind in (str, int, list, dict, set, frozenset, bytes, tuple) for name in dir(kind)}
 DOUBLE = {"__init__", "__eq__", "__repr__", "__str__", "__len__", "__all__", "__version__"}
 STATEMENTS = (ast.FunctionDef, ast.ClassDef, ast.Assign, ast.AugAssign, ast.If, ast.While, ast.For, ast.Return,
               ast.Break, ast.Continue, ast.Pass, ast.Raise, ast.Try, ast.Expr, ast.ImportFrom)
@@ -49,12 +56,19 @@ def values():
     return {node.attr for node in nodes(ast.Attribute) if isinstance(node.ctx, ast.Store)}
 
 
+def called(node):
+    """The name by which a call calls."""
+    return node.func.attr if isinstance(node.func, ast.Attribute) else getattr(node.func, "id", None)
+
+
 class Files(unittest.TestCase):
     def test_nothing_but_plain_files(self):
         found = [path for path in PACKAGE.rglob("*") if "__pycache__" not in path.parts]
         self.assertIn(PACKAGE / "__init__.py", found)
         for path in found:
             self.assertRegex(path.name, r"^[a-z0-9_]+\.py$")
+            self.assertNotRegex(path.stem, r"^(test.*|site|conftest|sitecustomize|usercustomize)$")
+            self.assertFalse(hasattr(builtins, path.stem) and path.stem != "__init__", path.stem)
 
     def test_signs_and_sizes(self):
         for path, tree in trees():
@@ -86,6 +100,42 @@ class Forms(unittest.TestCase):
         for node in nodes(ast.arguments):
             self.assertEqual((node.vararg, node.kwarg, node.kwonlyargs, node.posonlyargs), (None, None, [], []))
 
+    def test_comprehensions_are_plain(self):
+        for node in nodes(ast.ListComp):
+            self.assertEqual(len(node.generators), 1)
+            self.assertLessEqual(len(node.generators[0].ifs), 1)
+
+    def test_no_annotations_and_no_keywords(self):
+        for node in nodes(ast.FunctionDef):
+            self.assertIsNone(node.returns)
+        for node in nodes(ast.arg):
+            self.assertIsNone(node.annotation)
+        self.assertEqual(nodes(ast.keyword), [])
+
+    def test_texts(self):
+        for node in nodes(ast.Constant):
+            if isinstance(node.value, str):
+                self.assertNotIn("%", node.value)
+        for path, tree in trees():
+            self.assertNotIn("\\", path.read_text("utf-8"))
+
+    def test_what_is_walked_is_walked_on_the_spot(self):
+        at_once = [node.iter for node in nodes((ast.For, ast.comprehension))]
+        at_once += [node.args[0] for node in nodes(ast.Call) if called(node) in WALKERS and node.args]
+        places = {(node.lineno, node.col_offset) for node in at_once}
+        for node in nodes(ast.Call):
+            if called(node) in WALKED:
+                self.assertIn((node.lineno, node.col_offset), places)
+
+    def test_what_a_loop_walks_is_not_changed_in_it(self):
+        for loop in nodes(ast.For):
+            walked = {ast.unparse(node) for node in ast.walk(loop.iter)}
+            for node in [node for part in loop.body for node in ast.walk(part)]:
+                if isinstance(node, ast.Call) and called(node) in CHANGING:
+                    self.assertNotIn(ast.unparse(node.func.value), walked)
+                if isinstance(node, (ast.Attribute, ast.Subscript)) and isinstance(node.ctx, ast.Store):
+                    self.assertNotIn(ast.unparse(node.value), walked - {"self"})
+
     def test_is_stands_beside_none_and_truths(self):
         for node in nodes(ast.Compare):
             if any(isinstance(sign, (ast.Is, ast.IsNot)) for sign in node.ops):
@@ -103,6 +153,8 @@ class Forms(unittest.TestCase):
                                                                ast.Assign)))
                 if isinstance(node, ast.Assign):
                     ast.literal_eval(node.value)
+                    inner = [part for part in ast.walk(node.value) if part is not node.value]
+                    self.assertFalse(any(isinstance(part, (ast.List, ast.Dict, ast.Set)) for part in inner))
 
     def test_what_stands_at_the_top_is_not_changed(self):
         tops = {target.id for path, tree in trees() for node in tree.body if isinstance(node, ast.Assign)
@@ -131,6 +183,17 @@ class Names(unittest.TestCase):
         for node in nodes(ast.Attribute):
             self.assertIn(node.attr, OWN_METHODS | methods() | values())
         self.assertEqual(methods() & values(), set())
+        self.assertEqual(values() & NOT_VALUES, set())
+        self.assertEqual(values() & PYTHONS - FREE_VALUES, set())
+        self.assertEqual(methods() & PYTHONS - FREE_METHODS - DOUBLE, set())
+        self.assertEqual((methods() | values()) & OWN_NAMES, set())
+
+    def test_no_method_stands_twice_and_no_class_holds_a_value(self):
+        for node in nodes(ast.ClassDef):
+            parts = [part for part in node.body if not isinstance(part, ast.Expr)]
+            self.assertTrue(all(isinstance(part, ast.FunctionDef) for part in parts))
+            self.assertEqual(len(parts), len({part.name for part in parts}))
+            self.assertLessEqual(len(node.bases), 1)
 
     def test_bound_once_at_the_top(self):
         for path, tree in trees():
